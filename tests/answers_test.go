@@ -71,10 +71,26 @@ func oddPlans() []impl.Plan {
 	return append(list, long)
 }
 
-// planCalls are the functions of chapter 1 that answer a list.
-func planCalls() map[string]func(impl.Plan, int64) []int64 {
+// listCalls are the functions of chapters 1 and 2 that answer a list.
+func listCalls() map[string]func(impl.Plan, int64) []int64 {
 	return map[string]func(impl.Plan, int64) []int64{
 		"PodsIn": impl.PodsIn, "ChildrenOf": impl.ChildrenOf, "MountsOf": impl.MountsOf,
+		"BandsOf": func(p impl.Plan, _ int64) []int64 { return impl.BandsOf(p) },
+		"PodsOf":  impl.PodsOf,
+	}
+}
+
+// numberCalls are those that answer a number, or a flag as 1 or 0.
+func numberCalls() map[string]func(impl.Plan, int64) int64 {
+	return map[string]func(impl.Plan, int64) int64{
+		"PlanOk": func(p impl.Plan, _ int64) int64 {
+			if impl.PlanOk(p) {
+				return 1
+			}
+			return 0
+		},
+		"NextBand": impl.NextBand, "BandTime": impl.BandTime,
+		"WholeTime": func(p impl.Plan, _ int64) int64 { return impl.WholeTime(p) },
 	}
 }
 
@@ -89,12 +105,14 @@ func quiet(t *testing.T, name string, do func()) {
 	do()
 }
 
-func TestPromise19ChapterOneNeverPanicsNorWrites(t *testing.T) {
+func TestPromise19NeverPanicsNorWrites(t *testing.T) {
 	for _, odd := range oddPlans() {
 		p := roomyPlan(odd)
-		quiet(t, "PlanOk", func() { impl.PlanOk(p) })
-		for name, call := range planCalls() {
-			for _, n := range someNumbers() {
+		for _, n := range someNumbers() {
+			for name, call := range listCalls() {
+				quiet(t, name, func() { call(p, n) })
+			}
+			for name, call := range numberCalls() {
 				quiet(t, name, func() { call(p, n) })
 			}
 		}
@@ -104,10 +122,10 @@ func TestPromise19ChapterOneNeverPanicsNorWrites(t *testing.T) {
 	}
 }
 
-func TestPromise19ChapterOneAnswersAreNewMemory(t *testing.T) {
+func TestPromise19AnswersAreNewMemory(t *testing.T) {
 	for _, odd := range oddPlans() {
 		p := roomyPlan(odd)
-		for name, call := range planCalls() {
+		for name, call := range listCalls() {
 			for _, n := range someNumbers() {
 				once, twice := call(p, n), call(p, n)
 				before := slices.Clone(twice)
@@ -131,11 +149,16 @@ func overwrite(list []int64) {
 	}
 }
 
-func TestPromise19ChapterOneAnswersTheSameAgain(t *testing.T) {
+func TestPromise19AnswersTheSameAgain(t *testing.T) {
 	for _, p := range oddPlans() {
-		for name, call := range planCalls() {
-			for _, n := range someNumbers() {
+		for _, n := range someNumbers() {
+			for name, call := range listCalls() {
 				if !slices.Equal(call(p, n), call(roomyPlan(p), n)) {
+					t.Fatalf("%s of %d answers otherwise the second time", name, n)
+				}
+			}
+			for name, call := range numberCalls() {
+				if call(p, n) != call(roomyPlan(p), n) {
 					t.Fatalf("%s of %d answers otherwise the second time", name, n)
 				}
 			}
