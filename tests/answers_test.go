@@ -1,6 +1,7 @@
 package tests
 
 import (
+	"bytes"
 	"math"
 	"slices"
 	"testing"
@@ -143,9 +144,13 @@ func TestPromise19AnswersAreNewMemory(t *testing.T) {
 
 // overwrite writes into a list and into all the room behind it.
 func overwrite(list []int64) {
+	overwriteWith(list, -99)
+}
+
+func overwriteWith[T any](list []T, filler T) {
 	list = list[:cap(list)]
 	for i := range list {
-		list[i] = -99
+		list[i] = filler
 	}
 }
 
@@ -162,6 +167,79 @@ func TestPromise19AnswersTheSameAgain(t *testing.T) {
 					t.Fatalf("%s of %d answers otherwise the second time", name, n)
 				}
 			}
+		}
+	}
+}
+
+// oddRecs are lists of records, right ones and ones that are wrong in one way
+// or many.
+func oddRecs() [][]impl.Rec {
+	lists := [][]impl.Rec{nil, {}, manyRecs(1), manyRecs(80), manyRecs(81), manyRecs(5000), make([]impl.Rec, 100000)}
+	numbers := slices.Concat(someNumbers(), fieldEdges(), wrongFields(), wrongKinds())
+	for _, n := range numbers {
+		for _, r := range []impl.Rec{{Kind: n}, {Kind: 1, A: n}, {Kind: 12, B: n}, {Kind: n, A: n, B: n}} {
+			lists = append(lists, []impl.Rec{r}, append(manyRecs(3), r), append([]impl.Rec{r}, manyRecs(80)...))
+		}
+	}
+	return lists
+}
+
+// oddBytes are the bytes of lists, and such of which no list comes.
+func oddBytes() [][]byte {
+	lists := [][]byte{nil, {}, bytes.Repeat([]byte{0}, 3000), bytes.Repeat([]byte{255}, 3000), bytes.Repeat([]byte{128}, 100000)}
+	for _, list := range [][]impl.Rec{nil, manyRecs(1), manyRecs(4), manyRecs(80), manyRecs(81), manyRecs(5000)} {
+		b := plainBytes(list)
+		lists = append(lists, b, append(slices.Clone(b), 0), b[:len(b)-1], b[1:])
+	}
+	for i := range 256 {
+		lists = append(lists, []byte{byte(i)}, []byte{1, byte(i), 0, 0}, []byte{1, 1, byte(i), 0}, bytes.Repeat([]byte{byte(i)}, 30))
+	}
+	return lists
+}
+
+// wantOwnMemory calls call twice with odd: it does not panic, answers alike, and
+// writes neither into its argument nor into its other answer.
+func wantOwnMemory[A, B comparable](t *testing.T, name string, call func([]A) ([]B, bool), odd []A, oddFiller A, filler B) {
+	t.Helper()
+	list := roomy(odd, oddFiller)
+	quiet(t, name, func() {
+		once, right := call(list)
+		twice, again := call(list)
+		before := slices.Clone(twice)
+		if right != again || !slices.Equal(once, before) || !right && len(once) != 0 {
+			t.Fatalf("%s answers %v, %v, then %v, %v", name, once, right, before, again)
+		}
+		overwriteWith(once, filler)
+		if !slices.Equal(twice, before) {
+			t.Fatalf("two answers of %s share memory", name)
+		}
+	})
+	if !sameToTheEnd(list, roomy(odd, oddFiller)) {
+		t.Fatalf("%s writes into its argument", name)
+	}
+}
+
+func TestPromise19RecBytes(t *testing.T) {
+	for _, list := range oddRecs() {
+		wantOwnMemory(t, "RecBytes", impl.RecBytes, list, impl.Rec{Kind: -7, A: -7, B: -7}, 99)
+	}
+}
+
+func TestPromise19ReadRecs(t *testing.T) {
+	for _, b := range oddBytes() {
+		wantOwnMemory(t, "ReadRecs", impl.ReadRecs, b, 77, impl.Rec{Kind: -99, A: -99, B: -99})
+	}
+}
+
+func TestPromise19RecOk(t *testing.T) {
+	for _, list := range oddRecs() {
+		for _, r := range list[:min(len(list), 100)] {
+			quiet(t, "RecOk", func() {
+				right := 1 <= r.Kind && r.Kind <= 12 && 0 <= r.A && r.A <= 1000000 && 0 <= r.B && r.B <= 1000000
+				if impl.RecOk(r) != right || impl.RecOk(r) != right {
+					t.Errorf("RecOk of %v is not %v", r, right)
+				}
+			})
 		}
 	}
 }
