@@ -243,3 +243,115 @@ func TestPromise19RecOk(t *testing.T) {
 		}
 	}
 }
+
+// oddStores are stores, torn ones, and bytes that are none.
+func oddStores() [][]byte {
+	stores := append(oddBytes(), make([]byte, 100000), bytes.Repeat([]byte{1, 0, 217, 0, 0}, 20000))
+	stores = append(stores, bytes.Repeat(plainFrame(manyRecs(2)), 4))
+	whole := plainStore(someLists()[:6]...)
+	for cut := range len(whole) + 1 {
+		stores = append(stores, whole[:cut])
+	}
+	for _, body := range notRecs() {
+		stores = append(stores, wholeOf(body), slices.Concat(whole, wholeOf(body), whole))
+	}
+	for _, list := range oddRecs()[:6] {
+		stores = append(stores, wholeOf(plainBytes(list)), headed(65535, 65535, plainBytes(list)))
+	}
+	return stores
+}
+
+func TestPromise19SumOf(t *testing.T) {
+	for _, odd := range oddStores() {
+		b := roomy(odd, 77)
+		quiet(t, "SumOf", func() {
+			if sum := impl.SumOf(b); sum < 0 || sum >= 65521 || impl.SumOf(slices.Clone(odd)) != sum {
+				t.Errorf("SumOf %v is %d", b, sum)
+			}
+		})
+		if !sameToTheEnd(b, roomy(odd, 77)) {
+			t.Fatal("SumOf writes into its argument")
+		}
+	}
+}
+
+func TestPromise19Framed(t *testing.T) {
+	for _, list := range oddRecs() {
+		wantOwnMemory(t, "Framed", impl.Framed, list, impl.Rec{Kind: -7, A: -7, B: -7}, 99)
+	}
+}
+
+func TestPromise19ReadFrames(t *testing.T) {
+	for _, odd := range oddStores() {
+		b := roomy(odd, 77)
+		quiet(t, "ReadFrames", func() {
+			once, size := impl.ReadFrames(b)
+			twice, again := impl.ReadFrames(b)
+			if size != again || size < 0 || size > int64(len(b)) || !sameLists(once, twice) {
+				t.Fatalf("ReadFrames of %v answers %v, %d, then %v, %d", b, once, size, twice, again)
+			}
+			wantApart(t, once, twice)
+		})
+		if !sameToTheEnd(b, roomy(odd, 77)) {
+			t.Fatal("ReadFrames writes into its argument")
+		}
+	}
+}
+
+// wantApart writes into each of these lists, and into the room behind it,
+// something of its own: it stays so, and neither the lists behind it nor those
+// of the other answer are other ones then.
+func wantApart(t *testing.T, lists, other [][]impl.Rec) {
+	t.Helper()
+	own := func(i int) impl.Rec { return impl.Rec{Kind: -99, A: -int64(i), B: -1} }
+	for i, list := range lists {
+		if !slices.Equal(list, other[i]) {
+			t.Fatalf("list %d shares memory with one ahead of it", i)
+		}
+		overwriteWith(list, own(i))
+	}
+	for i, list := range lists {
+		if slices.ContainsFunc(list, func(r impl.Rec) bool { return r != own(i) }) {
+			t.Fatalf("list %d shares memory with one behind it", i)
+		}
+		if slices.ContainsFunc(other[i], func(r impl.Rec) bool { return r.Kind == -99 }) {
+			t.Fatalf("list %d shares memory with another answer", i)
+		}
+	}
+	overwriteWith(lists, []impl.Rec{{Kind: -99}})
+	if slices.ContainsFunc(other, func(list []impl.Rec) bool { return len(list) > 0 && list[0].Kind == -99 }) {
+		t.Fatal("two answers of ReadFrames share memory")
+	}
+}
+
+func TestPromise19WithFrame(t *testing.T) {
+	lists := append(someLists(), wrongLists()...)
+	for i, odd := range oddStores() {
+		for _, list := range [][]impl.Rec{nil, lists[i%len(lists)]} {
+			wantStoreApart(t, odd, list)
+		}
+	}
+}
+
+// wantStoreApart calls WithFrame twice: it writes into neither of its
+// arguments, and what is written into its answer is seen nowhere else.
+func wantStoreApart(t *testing.T, odd []byte, oddList []impl.Rec) {
+	t.Helper()
+	filler := impl.Rec{Kind: -7, A: -7, B: -7}
+	b, list := roomy(odd, 77), roomy(oddList, filler)
+	quiet(t, "WithFrame", func() {
+		once, right := impl.WithFrame(b, list)
+		twice, again := impl.WithFrame(b, list)
+		before := slices.Clone(twice)
+		if right != again || !slices.Equal(once, before) {
+			t.Fatalf("WithFrame answers %v, %v, then %v, %v", once, right, before, again)
+		}
+		overwriteWith(once, 99)
+		if !slices.Equal(twice, before) {
+			t.Fatal("two answers of WithFrame share memory")
+		}
+	})
+	if !sameToTheEnd(b, roomy(odd, 77)) || !sameToTheEnd(list, roomy(oddList, filler)) {
+		t.Fatal("WithFrame writes into an argument, or its answer shares memory with one")
+	}
+}
