@@ -355,3 +355,117 @@ func wantStoreApart(t *testing.T, odd []byte, oddList []impl.Rec) {
 		t.Fatal("WithFrame writes into an argument, or its answer shares memory with one")
 	}
 }
+
+// roomyState is s with lists of its own, each with spare room behind it that is
+// filled with what no state has.
+func roomyState(s impl.State) impl.State {
+	s.Pods = roomy(s.Pods, impl.PodAt{State: -7, Since: -7})
+	s.Mounts = roomy(s.Mounts, impl.MountAt{Held: true, Busy: -7})
+	s.Devices = roomy(s.Devices, true)
+	s.Locks = roomy(s.Locks, -7)
+	return s
+}
+
+// sameStateToTheEnd looks at the spare room behind the lists too.
+func sameStateToTheEnd(a, b impl.State) bool {
+	return equalStates(a, b) && sameToTheEnd(a.Pods, b.Pods) && sameToTheEnd(a.Mounts, b.Mounts) &&
+		sameToTheEnd(a.Devices, b.Devices) && sameToTheEnd(a.Locks, b.Locks)
+}
+
+// oddStates are right ones, of some plan or other, and ones that are wrong in
+// one way or many.
+func oddStates() []impl.State {
+	list := []impl.State{{}, busyState(), edgeState(), plainNew(smallPlan()), plainNew(fullPlan())}
+	for _, spoil := range stateSpoils() {
+		small, full := busyState(), edgeState()
+		spoil(&small)
+		spoil(&full)
+		list = append(list, small, full)
+	}
+	n := int64(math.MinInt64)
+	long := impl.State{Phase: n, Clock: n, Boot: n, Band: n, LockBy: n, Good: n, Probes: n}
+	for range 1000 {
+		long.Pods = append(long.Pods, impl.PodAt{State: n, Since: n})
+		long.Mounts = append(long.Mounts, impl.MountAt{Busy: n})
+		long.Devices = append(long.Devices, false)
+		long.Locks = append(long.Locks, n)
+	}
+	return append(list, long, inStates(make([]int64, 1000)...))
+}
+
+func TestPromise19StateOk(t *testing.T) {
+	for _, oddPlan := range oddPlans() {
+		p := roomyPlan(oddPlan)
+		for _, odd := range oddStates() {
+			s := roomyState(odd)
+			quiet(t, "StateOk", func() {
+				if impl.StateOk(p, s) != impl.StateOk(roomyPlan(oddPlan), odd) {
+					t.Errorf("StateOk of %v and %v answers otherwise the second time", oddPlan, odd)
+				}
+			})
+			if !sameStateToTheEnd(s, roomyState(odd)) {
+				t.Fatal("StateOk writes into its state")
+			}
+		}
+		if !samePlan(p, roomyPlan(oddPlan)) {
+			t.Fatal("StateOk writes into its plan")
+		}
+	}
+}
+
+func TestPromise19NewState(t *testing.T) {
+	for _, odd := range append(oddPlans(), rightPlans()...) {
+		p := roomyPlan(odd)
+		quiet(t, "NewState", func() {
+			once, twice := impl.NewState(p), impl.NewState(p)
+			before := ownState(twice)
+			if !equalStates(once, before) {
+				t.Fatalf("NewState answers %v, then %v", once, before)
+			}
+			overwriteState(once)
+			if !equalStates(twice, before) || !equalStates(impl.NewState(p), before) {
+				t.Fatal("two answers of NewState share memory")
+			}
+		})
+		if !samePlan(p, roomyPlan(odd)) {
+			t.Fatal("NewState writes into its plan, or its answer shares memory with it")
+		}
+	}
+}
+
+func overwriteState(s impl.State) {
+	overwriteWith(s.Pods, impl.PodAt{State: -99, Since: -99})
+	overwriteWith(s.Mounts, impl.MountAt{Busy: -99})
+	overwriteWith(s.Devices, false)
+	overwriteWith(s.Locks, -99)
+}
+
+func TestPromise19LiveIn(t *testing.T) {
+	for _, odd := range oddStates() {
+		s := roomyState(odd)
+		quiet(t, "LiveIn", func() {
+			once, twice := impl.LiveIn(s), impl.LiveIn(s)
+			before := slices.Clone(twice)
+			if !slices.Equal(once, before) {
+				t.Fatalf("LiveIn answers %v, then %v", once, before)
+			}
+			overwrite(once)
+			if !slices.Equal(twice, before) || !slices.Equal(impl.LiveIn(s), before) {
+				t.Fatal("two answers of LiveIn share memory")
+			}
+		})
+		if !sameStateToTheEnd(s, roomyState(odd)) {
+			t.Fatal("LiveIn writes into its state, or its answer shares memory with it")
+		}
+	}
+}
+
+func TestPromise19Alive(t *testing.T) {
+	for _, n := range append(someNumbers(), wrongFields()...) {
+		quiet(t, "Alive", func() {
+			if impl.Alive(n) != (0 <= n && n <= 3) {
+				t.Errorf("Alive of %d answers otherwise", n)
+			}
+		})
+	}
+}
