@@ -469,3 +469,103 @@ func TestPromise19Alive(t *testing.T) {
 		})
 	}
 }
+
+// stateCall is a call of chapter 6: AppliedRec is given a list of one record.
+type stateCall func(p impl.Plan, s impl.State, list []impl.Rec) (impl.State, bool)
+
+func appliedOne(p impl.Plan, s impl.State, list []impl.Rec) (impl.State, bool) {
+	return impl.AppliedRec(p, s, list[0])
+}
+
+// wantStateApart calls call twice: it does not panic, answers alike, and what is
+// written into an answer is seen neither in an argument nor in the other answer.
+// (The lists of one state are of unlike types, so no two of them share memory.)
+func wantStateApart(t *testing.T, name string, call stateCall, oddPlan impl.Plan, odd impl.State, oddList []impl.Rec) {
+	t.Helper()
+	filler := impl.Rec{Kind: -7, A: -7, B: -7}
+	p, s, list := roomyPlan(oddPlan), roomyState(odd), roomy(oddList, filler)
+	quiet(t, name, func() {
+		once, right := call(p, s, list)
+		twice, again := call(p, s, list)
+		before := ownState(twice)
+		if right != again || !equalStates(once, before) {
+			t.Fatalf("%s of %v answers %+v, %v, then %+v, %v", name, oddList, once, right, before, again)
+		}
+		overwriteState(once)
+		if !equalStates(twice, before) {
+			t.Fatalf("two answers of %s of %v share memory", name, oddList)
+		}
+	})
+	if !samePlan(p, roomyPlan(oddPlan)) || !sameStateToTheEnd(s, roomyState(odd)) || !sameToTheEnd(list, roomy(oddList, filler)) {
+		t.Fatalf("%s of %v writes into an argument, or its answer shares memory with one", name, oddList)
+	}
+}
+
+// edgeRecs are records of each kind, and of none, that are true, or false, in
+// most states.
+func edgeRecs() []impl.Rec {
+	list := []impl.Rec{}
+	for _, kind := range append(recKinds(), wrongKinds()...) {
+		for _, a := range []int64{math.MinInt64, -1, 0, 1, 2, 5, 7, 8, 12, 1000000, 1000001, math.MaxInt64} {
+			for _, b := range []int64{-1, 0, 1, 5, 6, 7, math.MaxInt64} {
+				list = append(list, impl.Rec{Kind: kind, A: a, B: b})
+			}
+		}
+	}
+	return list
+}
+
+func TestPromise19AppliedRec(t *testing.T) {
+	for _, c := range planStates() {
+		for _, r := range edgeRecs() {
+			wantStateApart(t, "AppliedRec", appliedOne, c.plan, c.from, []impl.Rec{r})
+		}
+	}
+	for _, p := range oddPlans() {
+		for _, s := range oddStates() {
+			for _, r := range []impl.Rec{{Kind: impl.RcPod, A: 2, B: 5}, {Kind: impl.RcLock, A: 3}, {Kind: -1}} {
+				wantStateApart(t, "AppliedRec", appliedOne, p, s, []impl.Rec{r})
+			}
+		}
+	}
+}
+
+func TestPromise19AppliedAll(t *testing.T) {
+	lists := append(oddRecs(), changingRecs())
+	for _, r := range falseRecs() {
+		for place := range len(changingRecs()) + 1 {
+			lists = append(lists, slices.Insert(changingRecs(), place, r))
+		}
+	}
+	for seed := range int64(50) {
+		lists = append(lists, madeRecs(seed, 30))
+	}
+	for _, c := range planStates() {
+		for _, list := range lists {
+			wantStateApart(t, "AppliedAll", impl.AppliedAll, c.plan, c.from, list)
+		}
+	}
+	for _, p := range oddPlans() {
+		for _, s := range oddStates() {
+			for _, list := range [][]impl.Rec{nil, changingRecs(), falseRecs()} {
+				wantStateApart(t, "AppliedAll", impl.AppliedAll, p, s, list)
+			}
+		}
+	}
+}
+
+// Even arguments that share memory with each other stay as they are.
+func TestPromise19ArgumentsThatShareMemory(t *testing.T) {
+	numbers := []int64{1, 4, 6, -7, -7}
+	p, s := smallPlan(), busyState()
+	p.Mins, s.Locks = numbers[:3], numbers[:3]
+	for _, r := range []impl.Rec{{Kind: impl.RcLock, A: 2}, {Kind: impl.RcUnlock, A: 1}, {Kind: impl.RcPhase}, {Kind: impl.RcLock, A: 8}} {
+		once, _ := impl.AppliedRec(p, s, r)
+		all, _ := impl.AppliedAll(p, s, []impl.Rec{r, {Kind: impl.RcBand, A: 7}})
+		overwriteState(once)
+		overwriteState(all)
+		if !alike(numbers, 1, 4, 6, -7, -7) {
+			t.Fatalf("%v: the numbers are %v now", r, numbers)
+		}
+	}
+}
