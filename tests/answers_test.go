@@ -569,3 +569,44 @@ func TestPromise19ArgumentsThatShareMemory(t *testing.T) {
 		}
 	}
 }
+
+// What chapter 7 is given and answers are numbers: no memory can be shared.
+func TestPromise19PodStep(t *testing.T) {
+	numbers := []int64{math.MinInt64, math.MinInt64 + 1, -501, -1, 0, 1, 2, 3, 4, 5, 6, 7, 500, 1000000, math.MaxInt64 - 1, math.MaxInt64}
+	for _, hook := range numbers {
+		for _, grace := range numbers {
+			quiet(t, "PodStep", func() {
+				for _, state := range numbers {
+					for _, since := range numbers {
+						for _, clock := range numbers {
+							d, at := impl.Pod{Hook: hook, Grace: grace}, impl.PodAt{State: state, Since: since}
+							other := impl.Pod{Group: clock, Band: since, Hook: hook, Grace: grace}
+							next := impl.PodStep(d, at, clock)
+							if next != impl.PodStep(d, at, clock) || next != impl.PodStep(other, at, clock) {
+								t.Fatalf("PodStep of %+v, %+v at %d answers otherwise the second time", d, at, clock)
+							}
+							if next != state && (next < 1 || next > 4) {
+								t.Fatalf("PodStep of %+v, %+v at %d is %d", d, at, clock, next)
+							}
+						}
+					}
+				}
+			})
+		}
+	}
+}
+
+func TestPromise19AfterHookAndExit(t *testing.T) {
+	for _, n := range slices.Concat(someNumbers(), wrongFields(), notStates()) {
+		quiet(t, "AfterHook", func() {
+			if next := impl.AfterHook(n); next != impl.AfterHook(n) || next != -1 && next != 2 {
+				t.Errorf("AfterHook of %d is %d", n, next)
+			}
+		})
+		quiet(t, "AfterExit", func() {
+			if next := impl.AfterExit(n); next != impl.AfterExit(n) || next != -1 && next != 4 && next != 5 {
+				t.Errorf("AfterExit of %d is %d", n, next)
+			}
+		})
+	}
+}
