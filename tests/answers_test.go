@@ -610,3 +610,73 @@ func TestPromise19AfterHookAndExit(t *testing.T) {
 		})
 	}
 }
+
+// budgetCalls are the functions of chapter 8, the flag as 1 or 0.
+func budgetCalls() map[string]func(impl.Plan, impl.State, int64) int64 {
+	return map[string]func(impl.Plan, impl.State, int64) int64{
+		"HealthyIn": impl.HealthyIn,
+		"MayEvict": func(p impl.Plan, s impl.State, pod int64) int64 {
+			if impl.MayEvict(p, s, pod) {
+				return 1
+			}
+			return 0
+		},
+	}
+}
+
+// wantBudgetCalls checks that these do not panic, answer a number that can be,
+// the same one again of other memory, and write into no argument.
+func wantBudgetCalls(t *testing.T, oddPlan impl.Plan, odd impl.State, numbers []int64) {
+	t.Helper()
+	p, s := roomyPlan(oddPlan), roomyState(odd)
+	// Nothing is asked of these, so that they tell what p and s were.
+	wasPlan, was := roomyPlan(oddPlan), roomyState(odd)
+	for name, call := range budgetCalls() {
+		for _, n := range numbers {
+			quiet(t, name, func() {
+				got := call(p, s, n)
+				if !samePlan(p, wasPlan) || !sameStateToTheEnd(s, was) {
+					t.Fatalf("%s of %d writes into an argument", name, n)
+				}
+				if got < -1 || got > 12 || got != call(p, s, n) || got != call(oddPlan, odd, n) {
+					t.Fatalf("%s of %d, %+v and %+v is %d, or answers otherwise the second time", name, n, oddPlan, odd, got)
+				}
+			})
+		}
+	}
+}
+
+func TestPromise19Budgets(t *testing.T) {
+	plans, states := oddPlans(), append(oddStates(), draining(smallPlan()), draining(fullPlan()))
+	for _, p := range plans {
+		for _, s := range states {
+			wantBudgetCalls(t, p, s, []int64{math.MinInt64, -1, 0, 2, 3, 12, 1 << 32, math.MaxInt64})
+		}
+	}
+	numbers := append(someNumbers(), notNumbers()...)
+	for _, p := range []impl.Plan{{}, {Probes: 1, Tries: 1}, groupsPlan([]int64{0, 1}), smallPlan(), fullPlan(), plans[len(plans)-1]} {
+		for _, s := range append(states, draining(p), impl.State{Phase: impl.PhDraining, Cordon: true}) {
+			wantBudgetCalls(t, p, s, numbers)
+		}
+	}
+	for seed := range int64(100) {
+		p := madePlan(seed)
+		s := madeState(p, seed)
+		wantBudgetCalls(t, p, s, numbers)
+		s.Phase, s.Cordon = impl.PhDraining, true
+		wantBudgetCalls(t, p, s, numbers)
+	}
+}
+
+// The lists of a plan and of a state beside it may be of one memory: it stays.
+func TestPromise19BudgetsOfSharedMemory(t *testing.T) {
+	numbers := []int64{0, 1, 3, -7, -7}
+	p, s := smallPlan(), draining(smallPlan(), impl.PdRunning, impl.PdKill)
+	p.Mins, s.Locks = numbers[:3], numbers[:3]
+	if impl.HealthyIn(p, s, 0) != 2 || impl.HealthyIn(p, s, 1) != 0 || !impl.MayEvict(p, s, 2) || impl.MayEvict(p, s, 1) {
+		t.Error("the answers are others")
+	}
+	if !alike(numbers, 0, 1, 3, -7, -7) {
+		t.Errorf("the numbers are %v now", numbers)
+	}
+}
