@@ -611,27 +611,35 @@ func TestPromise19AfterHookAndExit(t *testing.T) {
 	}
 }
 
-// budgetCalls are the functions of chapter 8, the flag as 1 or 0.
-func budgetCalls() map[string]func(impl.Plan, impl.State, int64) int64 {
-	return map[string]func(impl.Plan, impl.State, int64) int64{
-		"HealthyIn": impl.HealthyIn,
-		"MayEvict": func(p impl.Plan, s impl.State, pod int64) int64 {
-			if impl.MayEvict(p, s, pod) {
-				return 1
-			}
-			return 0
-		},
+// askCall is a call that asks a number of a state beside its plan.
+type askCall func(p impl.Plan, s impl.State, n int64) int64
+
+// askFlag makes the flag that may answers 1 or 0.
+func askFlag(may func(impl.Plan, impl.State, int64) bool) askCall {
+	return func(p impl.Plan, s impl.State, n int64) int64 {
+		if may(p, s, n) {
+			return 1
+		}
+		return 0
 	}
 }
 
-// wantBudgetCalls checks that these do not panic, answer a number that can be,
-// the same one again of other memory, and write into no argument.
-func wantBudgetCalls(t *testing.T, oddPlan impl.Plan, odd impl.State, numbers []int64) {
+func budgetCalls() map[string]askCall {
+	return map[string]askCall{"HealthyIn": impl.HealthyIn, "MayEvict": askFlag(impl.MayEvict)}
+}
+
+func holdCalls() map[string]askCall {
+	return map[string]askCall{"MayFree": askFlag(impl.MayFree), "MayGive": askFlag(impl.MayGive)}
+}
+
+// wantAskCalls checks that these do not panic, answer a number that can be, the
+// same one again of other memory, and write into no argument.
+func wantAskCalls(t *testing.T, calls map[string]askCall, oddPlan impl.Plan, odd impl.State, numbers []int64) {
 	t.Helper()
 	p, s := roomyPlan(oddPlan), roomyState(odd)
 	// Nothing is asked of these, so that they tell what p and s were.
 	wasPlan, was := roomyPlan(oddPlan), roomyState(odd)
-	for name, call := range budgetCalls() {
+	for name, call := range calls {
 		for _, n := range numbers {
 			quiet(t, name, func() {
 				got := call(p, s, n)
@@ -650,21 +658,21 @@ func TestPromise19Budgets(t *testing.T) {
 	plans, states := oddPlans(), append(oddStates(), draining(smallPlan()), draining(fullPlan()))
 	for _, p := range plans {
 		for _, s := range states {
-			wantBudgetCalls(t, p, s, []int64{math.MinInt64, -1, 0, 2, 3, 12, 1 << 32, math.MaxInt64})
+			wantAskCalls(t, budgetCalls(), p, s, []int64{math.MinInt64, -1, 0, 2, 3, 12, 1 << 32, math.MaxInt64})
 		}
 	}
 	numbers := append(someNumbers(), notNumbers()...)
 	for _, p := range []impl.Plan{{}, {Probes: 1, Tries: 1}, groupsPlan([]int64{0, 1}), smallPlan(), fullPlan(), plans[len(plans)-1]} {
 		for _, s := range append(states, draining(p), impl.State{Phase: impl.PhDraining, Cordon: true}) {
-			wantBudgetCalls(t, p, s, numbers)
+			wantAskCalls(t, budgetCalls(), p, s, numbers)
 		}
 	}
 	for seed := range int64(100) {
 		p := madePlan(seed)
 		s := madeState(p, seed)
-		wantBudgetCalls(t, p, s, numbers)
+		wantAskCalls(t, budgetCalls(), p, s, numbers)
 		s.Phase, s.Cordon = impl.PhDraining, true
-		wantBudgetCalls(t, p, s, numbers)
+		wantAskCalls(t, budgetCalls(), p, s, numbers)
 	}
 }
 
@@ -677,6 +685,39 @@ func TestPromise19BudgetsOfSharedMemory(t *testing.T) {
 		t.Error("the answers are others")
 	}
 	if !alike(numbers, 0, 1, 3, -7, -7) {
+		t.Errorf("the numbers are %v now", numbers)
+	}
+}
+
+func TestPromise19Holding(t *testing.T) {
+	plans, states := oddPlans(), append(oddStates(), ended(smallPlan(), 4), ended(fullPlan(), 11))
+	for _, p := range plans {
+		for _, s := range states {
+			wantAskCalls(t, holdCalls(), p, s, []int64{math.MinInt64, -1, 0, 2, 3, 4, 5, 11, 12, 1 << 32, math.MaxInt64})
+		}
+	}
+	numbers := append(someNumbers(), notNumbers()...)
+	for _, p := range []impl.Plan{{}, {Probes: 1, Tries: 1}, mountsPlan(), mountsPlan(-1, 0, 0), smallPlan(), fullPlan(), plans[len(plans)-1]} {
+		for _, s := range append(states, ended(p), impl.State{Phase: impl.PhReleasing, Cordon: true}) {
+			wantAskCalls(t, holdCalls(), p, s, numbers)
+		}
+	}
+	for seed := range int64(100) {
+		p := madePlan(seed)
+		wantAskCalls(t, holdCalls(), p, madeState(p, seed), numbers)
+		wantAskCalls(t, holdCalls(), p, ended(p), numbers)
+	}
+}
+
+// Here too the lists may be of one memory.
+func TestPromise19HoldingOfSharedMemory(t *testing.T) {
+	numbers := []int64{1, 4, 6, -7, -7}
+	p, s := smallPlan(), ended(smallPlan(), 4)
+	p.Mins, s.Locks = numbers[:3], numbers[:3]
+	if !impl.MayFree(p, s, 3) || impl.MayFree(p, s, 0) || !impl.MayGive(p, s, 2) || impl.MayGive(p, s, 1) {
+		t.Error("the answers are others")
+	}
+	if !alike(numbers, 1, 4, 6, -7, -7) {
 		t.Errorf("the numbers are %v now", numbers)
 	}
 }
