@@ -721,3 +721,79 @@ func TestPromise19HoldingOfSharedMemory(t *testing.T) {
 		t.Errorf("the numbers are %v now", numbers)
 	}
 }
+
+// wantListApart calls one that answers records and a code twice: it does not
+// panic, answers alike, has no records with a code but CdOk, and what is written
+// into its records is seen neither in an argument nor in the other answer.
+func wantListApart(t *testing.T, name string, call func(impl.Plan, impl.State) ([]impl.Rec, int64), oddPlan impl.Plan, odd impl.State) {
+	t.Helper()
+	p, s := roomyPlan(oddPlan), roomyState(odd)
+	quiet(t, name, func() {
+		once, code := call(p, s)
+		twice, again := call(oddPlan, odd)
+		before := slices.Clone(twice)
+		if code != again || !slices.Equal(once, before) || code != impl.CdOk && len(once) != 0 {
+			t.Fatalf("%s answers %v, %d, then %v, %d", name, once, code, before, again)
+		}
+		overwriteWith(once, impl.Rec{Kind: -99, A: -99, B: -99})
+		if !slices.Equal(twice, before) {
+			t.Fatalf("two answers of %s share memory", name)
+		}
+		third, _ := call(p, s)
+		if !slices.Equal(third, before) {
+			t.Fatalf("%s answers %v the third time, not %v", name, third, before)
+		}
+	})
+	if !samePlan(p, roomyPlan(oddPlan)) || !sameStateToTheEnd(s, roomyState(odd)) {
+		t.Fatalf("%s writes into an argument, or its answer shares memory with one", name)
+	}
+}
+
+func wantCommandsApart(t *testing.T, p impl.Plan, s impl.State, kinds, numbers []int64) {
+	t.Helper()
+	for _, kind := range kinds {
+		for i, a := range numbers {
+			b := numbers[(i+3)%len(numbers)]
+			wantListApart(t, "Commanded", func(p impl.Plan, s impl.State) ([]impl.Rec, int64) {
+				return impl.Commanded(p, s, kind, a, b)
+			}, p, s)
+		}
+	}
+}
+
+func TestPromise19Commanded(t *testing.T) {
+	kinds := []int64{1, 2, 3, 4, 5, 6, 7, 8, 9, 10}
+	for _, p := range oddPlans() {
+		for _, s := range append(oddStates(), readyState(impl.PhDraining)) {
+			wantCommandsApart(t, p, s, []int64{3, 4, 10}, []int64{-1, 1, math.MaxInt64})
+		}
+	}
+	numbers := []int64{math.MinInt64, -1 << 32, -1, 0, 1, 2, 3, 5, 7, 8, 11, 12, 1 << 32, math.MaxInt64}
+	for _, p := range []impl.Plan{{}, {Probes: 1, Tries: 1}, groupsPlan([]int64{0, 1}), smallPlan(), fullPlan()} {
+		for _, s := range append(oddStates(), draining(p), ended(p)) {
+			wantCommandsApart(t, p, s, append(otherKinds(), kinds...), numbers)
+		}
+	}
+	for phase := range int64(9) {
+		wantCommandsApart(t, smallPlan(), readyState(phase), kinds, numbers)
+	}
+	for seed := range int64(40) {
+		p := madePlan(seed)
+		wantCommandsApart(t, p, madeState(p, seed), kinds, numbers)
+		wantCommandsApart(t, p, draining(p), kinds, numbers)
+	}
+}
+
+// Here too the lists may be of one memory.
+func TestPromise19CommandedOfSharedMemory(t *testing.T) {
+	numbers := []int64{0, 1, 3, -7, -7}
+	p, s := smallPlan(), readyState(impl.PhDraining)
+	p.Mins, s.Locks = numbers[:3], numbers[:3]
+	for _, c := range readyCommands() {
+		list, _ := commanded(p, s, c.said)
+		overwriteWith(list, impl.Rec{Kind: -99, A: -99, B: -99})
+	}
+	if !alike(numbers, 0, 1, 3, -7, -7) {
+		t.Errorf("the numbers are %v now", numbers)
+	}
+}
