@@ -797,3 +797,62 @@ func TestPromise19CommandedOfSharedMemory(t *testing.T) {
 		t.Errorf("the numbers are %v now", numbers)
 	}
 }
+
+// tickStates are states of p that shut each band or none, or release, with
+// what is held and who is alive in several ways.
+func tickStates(p impl.Plan) []impl.State {
+	list := []impl.State{}
+	for state := range int64(7) {
+		for band := range int64(7) {
+			list = append(list, shutting(p, band, slices.Repeat([]int64{state}, len(p.Pods))...))
+		}
+		s := ended(p)
+		for i := range s.Mounts {
+			s.Mounts[i] = impl.MountAt{Held: int64(i)%7 != state, Busy: int64(i) % 7 * state % 3}
+			if !s.Mounts[i].Held {
+				s.Mounts[i].Busy = 0
+			}
+		}
+		s.Clock = 1000000 - state
+		list = append(list, s)
+	}
+	return list
+}
+
+func TestPromise19TickRecs(t *testing.T) {
+	for _, p := range oddPlans() {
+		for _, s := range append(oddStates(), shutting(smallPlan(), 1), shutting(fullPlan(), 5), ended(smallPlan(), 4), ended(fullPlan())) {
+			wantListApart(t, "TickRecs", impl.TickRecs, p, s)
+		}
+	}
+	for _, p := range []impl.Plan{{}, {Probes: 1, Tries: 1}, inBands(0, 5, 5), mountsPlan(-1, 0, 1), smallPlan(), fullPlan(), fullBands()} {
+		for _, s := range append(oddStates(), tickStates(p)...) {
+			for _, n := range append(someNumbers(), 41, 42, 1000, 999999, 1000000, 1000001) {
+				ticked, locked := s, s
+				ticked.Clock, locked.LockBy, locked.Locks = n, n, []int64{3}
+				wantListApart(t, "TickRecs", impl.TickRecs, p, ticked)
+				wantListApart(t, "TickRecs", impl.TickRecs, p, locked)
+			}
+		}
+	}
+	for seed := range int64(100) {
+		p := madePlan(seed)
+		for _, s := range append(tickStates(p), madeState(p, seed)) {
+			wantListApart(t, "TickRecs", impl.TickRecs, p, s)
+		}
+	}
+}
+
+// Here too the lists may be of one memory.
+func TestPromise19TickRecsOfSharedMemory(t *testing.T) {
+	numbers := []int64{0, 1, 3, -7, -7}
+	p := smallPlan()
+	for _, s := range tickStates(p) {
+		p.Mins, s.Locks = numbers[:3], numbers[:3]
+		list, _ := impl.TickRecs(p, s)
+		overwriteWith(list, impl.Rec{Kind: -99, A: -99, B: -99})
+	}
+	if !alike(numbers, 0, 1, 3, -7, -7) {
+		t.Errorf("the numbers are %v now", numbers)
+	}
+}
