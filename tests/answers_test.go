@@ -856,3 +856,73 @@ func TestPromise19TickRecsOfSharedMemory(t *testing.T) {
 		t.Errorf("the numbers are %v now", numbers)
 	}
 }
+
+// bootStates are states of p in each phase, whose pods are in all states, some
+// before any probe, some behind the last one.
+func bootStates(p impl.Plan) []impl.State {
+	list := []impl.State{}
+	for phase := range int64(9) {
+		for _, probes := range []int64{0, 1, p.Tries - 1, p.Tries} {
+			s := probed(p, phase, probes, probes)
+			s.Boot, s.Locks = probes%3, []int64{phase % 4, 4 + phase%4}
+			for pod := range s.Pods {
+				s.Pods[pod].State = (phase + int64(pod)) % 7
+			}
+			for mount := range s.Mounts {
+				s.Mounts[mount].Held = (phase+int64(mount))%3 > 0
+			}
+			list = append(list, s)
+		}
+	}
+	return list
+}
+
+func wantBootsApart(t *testing.T, p impl.Plan, s impl.State, ids []int64) {
+	t.Helper()
+	for _, id := range ids {
+		wantListApart(t, "BootRecs", func(p impl.Plan, s impl.State) ([]impl.Rec, int64) {
+			return impl.BootRecs(p, s, id)
+		}, p, s)
+	}
+	for _, good := range []bool{true, false} {
+		wantListApart(t, "ProbeRecs", func(p impl.Plan, s impl.State) ([]impl.Rec, int64) {
+			return impl.ProbeRecs(p, s, good)
+		}, p, s)
+	}
+}
+
+func TestPromise19BootRecsAndProbeRecs(t *testing.T) {
+	for _, p := range oddPlans() {
+		for _, s := range append(oddStates(), inPhase(busyState(), impl.PhBooted), inPhase(edgeState(), impl.PhChecking)) {
+			wantBootsApart(t, p, s, []int64{math.MinInt64, 1, 7, math.MaxInt64})
+		}
+	}
+	ids := slices.Concat(someNumbers(), fieldEdges(), wrongFields())
+	for _, p := range []impl.Plan{{}, {Probes: 1, Tries: 1}, inBands(0, 5, 5), mountsPlan(-1, 0, 1), smallPlan(), fullPlan()} {
+		for _, s := range append(oddStates(), bootStates(p)...) {
+			wantBootsApart(t, p, s, ids)
+		}
+	}
+	for seed := range int64(100) {
+		p := madePlan(seed)
+		for _, s := range append(bootStates(p), madeState(p, seed)) {
+			wantBootsApart(t, p, s, []int64{-1, 0, 1, 2, s.Boot, 1000000, 1000001})
+		}
+	}
+}
+
+// Here too the lists may be of one memory.
+func TestPromise19BootRecsOfSharedMemory(t *testing.T) {
+	numbers := []int64{0, 1, 3, -7, -7}
+	p := smallPlan()
+	for _, s := range bootStates(p) {
+		p.Mins, s.Locks = numbers[:3], numbers[:3]
+		list, _ := impl.BootRecs(p, s, 5)
+		overwriteWith(list, impl.Rec{Kind: -99, A: -99, B: -99})
+		list, _ = impl.ProbeRecs(p, s, true)
+		overwriteWith(list, impl.Rec{Kind: -99, A: -99, B: -99})
+	}
+	if !alike(numbers, 0, 1, 3, -7, -7) {
+		t.Errorf("the numbers are %v now", numbers)
+	}
+}
