@@ -926,3 +926,81 @@ func TestPromise19BootRecsOfSharedMemory(t *testing.T) {
 		t.Errorf("the numbers are %v now", numbers)
 	}
 }
+
+// What OrderOk is given and answers are no memory that could be shared.
+func TestPromise19OrderOk(t *testing.T) {
+	for _, kind := range orderNumbers() {
+		for _, a := range orderNumbers() {
+			quiet(t, "OrderOk", func() {
+				for _, b := range orderNumbers() {
+					o := impl.Order{Kind: kind, A: a, B: b}
+					if right := plainOrder(o); impl.OrderOk(o) != right || impl.OrderOk(o) != right {
+						t.Fatalf("OrderOk of %+v is not %v", o, right)
+					}
+				}
+			})
+		}
+	}
+}
+
+func wantPlannedApart(t *testing.T, p impl.Plan, s impl.State, these ...impl.Order) {
+	t.Helper()
+	for _, o := range these {
+		wantListApart(t, "Planned", func(p impl.Plan, s impl.State) ([]impl.Rec, int64) {
+			return impl.Planned(p, s, o)
+		}, p, s)
+	}
+}
+
+// someOrders are one of each kind, and some that are not right.
+func someOrders() []impl.Order {
+	list := []impl.Order{
+		{Kind: impl.OdBusy, A: 3, B: 4}, {Kind: impl.OdProbe, A: 1}, {Kind: impl.OdProbe, A: 2}, {Kind: impl.OdCordon, A: 1},
+		{Kind: impl.OdEvict, A: math.MinInt64}, {Kind: impl.OdBusy, A: math.MaxInt64, B: math.MinInt64}, {Kind: math.MinInt64},
+	}
+	for kind := int64(-1); kind <= 15; kind++ {
+		list = append(list, impl.Order{Kind: kind}, impl.Order{Kind: kind, A: 1})
+	}
+	return list
+}
+
+func TestPromise19Planned(t *testing.T) {
+	few := []impl.Order{{Kind: impl.OdCordon}, {Kind: impl.OdTick}, {Kind: impl.OdBoot, A: 5}, {Kind: math.MaxInt64, A: -1, B: -1}}
+	for _, p := range oddPlans() {
+		for _, s := range append(oddStates(), readyState(impl.PhDraining)) {
+			wantPlannedApart(t, p, s, few...)
+		}
+	}
+	for _, p := range []impl.Plan{{}, {Probes: 1, Tries: 1}, groupsPlan([]int64{0, 1}), mountsPlan(-1, 0, 1), smallPlan(), fullPlan()} {
+		for _, s := range slices.Concat(oddStates(), tickStates(p), bootStates(p), []impl.State{draining(p), ended(p)}) {
+			wantPlannedApart(t, p, s, someOrders()...)
+		}
+	}
+	for phase := range int64(9) {
+		wantPlannedApart(t, smallPlan(), readyState(phase), someOrders()...)
+		for _, c := range readyCommands() {
+			wantPlannedApart(t, smallPlan(), readyState(phase), orderOf(c.said))
+		}
+	}
+	for seed := range int64(40) {
+		p := madePlan(seed)
+		wantPlannedApart(t, p, madeState(p, seed), someOrders()...)
+		wantPlannedApart(t, p, draining(p), someOrders()...)
+	}
+}
+
+// Here too the lists may be of one memory.
+func TestPromise19PlannedOfSharedMemory(t *testing.T) {
+	numbers := []int64{0, 1, 3, -7, -7}
+	p := smallPlan()
+	for _, s := range slices.Concat(tickStates(p), bootStates(p), []impl.State{readyState(impl.PhDraining)}) {
+		p.Mins, s.Locks = numbers[:3], numbers[:3]
+		for _, o := range someOrders() {
+			list, _ := impl.Planned(p, s, o)
+			overwriteWith(list, impl.Rec{Kind: -99, A: -99, B: -99})
+		}
+	}
+	if !alike(numbers, 0, 1, 3, -7, -7) {
+		t.Errorf("the numbers are %v now", numbers)
+	}
+}
