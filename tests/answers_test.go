@@ -1004,3 +1004,74 @@ func TestPromise19PlannedOfSharedMemory(t *testing.T) {
 		t.Errorf("the numbers are %v now", numbers)
 	}
 }
+
+func snapped(p impl.Plan, s impl.State) ([]impl.Rec, int64) {
+	return impl.SnapOf(p, s), impl.CdOk
+}
+
+func TestPromise19SnapOf(t *testing.T) {
+	for _, p := range oddPlans() {
+		for _, s := range append(oddStates(), readyState(impl.PhDraining)) {
+			wantListApart(t, "SnapOf", snapped, p, s)
+		}
+	}
+	for _, p := range []impl.Plan{{}, {Probes: 1, Tries: 1}, inBands(0, 5, 5), mountsPlan(-1, 0, 1), smallPlan(), fullPlan()} {
+		for _, s := range slices.Concat(oddStates(), tickStates(p), bootStates(p), []impl.State{draining(p), ended(p)}) {
+			wantListApart(t, "SnapOf", snapped, p, s)
+		}
+	}
+	for seed := range int64(100) {
+		p := madePlan(seed)
+		for _, s := range append(bootStates(p), madeState(p, seed), plainNew(p)) {
+			wantListApart(t, "SnapOf", snapped, p, s)
+		}
+	}
+}
+
+// Here too the lists may be of one memory.
+func TestPromise19SnapOfSharedMemory(t *testing.T) {
+	numbers := []int64{0, 1, 3, -7, -7}
+	p := smallPlan()
+	for _, s := range slices.Concat(tickStates(p), bootStates(p)) {
+		p.Mins, s.Locks = numbers[:3], numbers[:3]
+		overwriteWith(impl.SnapOf(p, s), impl.Rec{Kind: -99, A: -99, B: -99})
+	}
+	if !alike(numbers, 0, 1, 3, -7, -7) {
+		t.Errorf("the numbers are %v now", numbers)
+	}
+}
+
+// What SameState answers is no memory that could be shared.
+func TestPromise19SameState(t *testing.T) {
+	states := append(oddStates(), sameStates()...)
+	for _, oddOne := range states {
+		for _, oddTwo := range states {
+			a, b := roomyState(oddOne), roomyState(oddTwo)
+			quiet(t, "SameState", func() {
+				same := equalStates(oddOne, oddTwo)
+				if impl.SameState(a, b) != same || impl.SameState(oddOne, b) != same || impl.SameState(a, oddTwo) != same {
+					t.Fatalf("SameState of %+v and %+v is not %v", oddOne, oddTwo, same)
+				}
+			})
+			if !sameStateToTheEnd(a, roomyState(oddOne)) || !sameStateToTheEnd(b, roomyState(oddTwo)) {
+				t.Fatal("SameState writes into an argument")
+			}
+		}
+	}
+}
+
+// Nor do two states that share all their lists change, or one that stands on
+// both sides.
+func TestPromise19SameStateOfSharedMemory(t *testing.T) {
+	for _, odd := range append(oddStates(), sameStates()...) {
+		s := roomyState(odd)
+		other := s
+		other.Clock++
+		if !impl.SameState(s, s) || impl.SameState(s, other) || impl.SameState(other, s) {
+			t.Errorf("SameState of %+v answers otherwise where memory is shared", odd)
+		}
+		if !sameStateToTheEnd(s, roomyState(odd)) {
+			t.Fatal("SameState writes into an argument")
+		}
+	}
+}
