@@ -1075,3 +1075,203 @@ func TestPromise19SameStateOfSharedMemory(t *testing.T) {
 		}
 	}
 }
+
+// roomyAgent is a with lists of its own, each with spare room behind it that is
+// filled with what no agent has.
+func roomyAgent(a impl.Agent) impl.Agent {
+	return impl.Agent{Plan: roomyPlan(a.Plan), State: roomyState(a.State), Store: roomy(a.Store, 77)}
+}
+
+// sameAgentToTheEnd looks at the spare room behind the lists too.
+func sameAgentToTheEnd(a, b impl.Agent) bool {
+	return samePlan(a.Plan, b.Plan) && sameStateToTheEnd(a.State, b.State) && sameToTheEnd(a.Store, b.Store)
+}
+
+// overwriteAgent writes into all lists of an answer, into each something of its
+// own: no two of them share memory, or one of those of one type is another then.
+func overwriteAgent(t *testing.T, name string, a impl.Agent) {
+	t.Helper()
+	overwriteWith(a.Plan.Pods, impl.Pod{Group: -99, Band: -99, Grace: -99, Hook: -99})
+	overwriteWith(a.Plan.Mounts, impl.Mount{Pod: -99, Parent: -99})
+	overwriteWith(a.Plan.Devices, impl.Device{Mount: -99})
+	overwriteWith(a.Store, 99)
+	overwriteWith(a.Plan.Mins, -98)
+	overwriteState(a.State)
+	if slices.ContainsFunc(a.Plan.Mins, func(n int64) bool { return n != -98 }) {
+		t.Fatalf("%s: Locks share memory with Mins", name)
+	}
+	overwriteWith(a.Plan.Mins, -98)
+	if slices.ContainsFunc(a.State.Locks, func(n int64) bool { return n != -99 }) {
+		t.Fatalf("%s: Mins share memory with Locks", name)
+	}
+}
+
+// wantAgentApart calls one that answers an agent and a code three times: it does
+// not panic, answers alike, and what is written into an answer is seen neither
+// in an argument nor in another answer. Beside a code that is none of these
+// there is the zero agent.
+func wantAgentApart(t *testing.T, name string, call func(impl.Agent) (impl.Agent, int64), odd impl.Agent, zero int64) {
+	t.Helper()
+	a := roomyAgent(odd)
+	quiet(t, name, func() {
+		once, code := call(a)
+		twice, again := call(odd)
+		before := ownAgent(twice)
+		if code != again || !equalAgents(once, before) || code == zero && !equalAgents(once, impl.Agent{}) && !impl.AgentOk(odd) {
+			t.Fatalf("%s answers %+v, %d, then %+v, %d, of %+v", name, once, code, before, again, odd)
+		}
+		overwriteAgent(t, name, once)
+		if !equalAgents(twice, before) {
+			t.Fatalf("two answers of %s share memory", name)
+		}
+		if third, code := call(a); code != again || !equalAgents(third, before) {
+			t.Fatalf("%s answers %+v, %d the third time, not %+v, %d", name, third, code, before, again)
+		}
+	})
+	if !sameAgentToTheEnd(a, roomyAgent(odd)) {
+		t.Fatalf("%s writes into an argument, or its answer shares memory with one", name)
+	}
+}
+
+// oddAgents are agents, and ones that are wrong in one way or many.
+func oddAgents(t *testing.T) []impl.Agent {
+	t.Helper()
+	list := append(manyAgents(t), spentAgents(t)...)
+	for _, a := range notAgents(t) {
+		list = append(list, a)
+	}
+	stores, states := oddStores(), oddStates()
+	for i, p := range oddPlans() {
+		list = append(list, impl.Agent{Plan: p, State: states[i%len(states)], Store: stores[i%len(stores)]}, impl.Agent{Plan: p, State: plainNew(p)})
+	}
+	for i, s := range states {
+		list = append(list, impl.Agent{Plan: smallPlan(), State: s}, impl.Agent{Plan: fullPlan(), State: s, Store: stores[i]})
+	}
+	for i, b := range stores {
+		if i%7 == 0 {
+			list = append(list, impl.Agent{Plan: smallPlan(), State: plainNew(smallPlan()), Store: b}, impl.Agent{Plan: fullPlan(), State: edgeState(), Store: b})
+		}
+	}
+	return list
+}
+
+func TestPromise19AgentOk(t *testing.T) {
+	for _, odd := range oddAgents(t) {
+		a := roomyAgent(odd)
+		quiet(t, "AgentOk", func() {
+			if right := impl.AgentOk(odd); impl.AgentOk(a) != right || impl.AgentOk(a) != right {
+				t.Errorf("AgentOk answers otherwise the second time of %+v", odd)
+			}
+		})
+		if !sameAgentToTheEnd(a, roomyAgent(odd)) {
+			t.Fatal("AgentOk writes into its argument")
+		}
+	}
+}
+
+func TestPromise19NewAgent(t *testing.T) {
+	for _, p := range append(oddPlans(), rightPlans()...) {
+		wantAgentApart(t, "NewAgent", func(a impl.Agent) (impl.Agent, int64) {
+			made, ok := impl.NewAgent(a.Plan)
+			if !ok {
+				return made, -1
+			}
+			return made, 0
+		}, impl.Agent{Plan: p}, -1)
+	}
+}
+
+func TestPromise19Obeyed(t *testing.T) {
+	few := []impl.Order{{Kind: impl.OdCordon}, {Kind: impl.OdTick}, {Kind: impl.OdBoot, A: 5}, {Kind: math.MaxInt64, A: -1, B: -1}}
+	want := func(a impl.Agent, these ...impl.Order) {
+		t.Helper()
+		for _, o := range these {
+			wantAgentApart(t, "Obeyed", func(a impl.Agent) (impl.Agent, int64) { return impl.Obeyed(a, o) }, a, impl.CdBad)
+		}
+	}
+	for _, a := range oddAgents(t) {
+		want(a, few...)
+	}
+	for _, a := range append(manyAgents(t), spentAgents(t)...) {
+		want(a, someOrders()...)
+		want(agentWith(t, a.Plan, a.State, 1200), someOrders()...)
+	}
+	for phase := range int64(9) {
+		for _, c := range readyCommands() {
+			want(readyAgent(t, phase), orderOf(c.said))
+		}
+	}
+	for _, c := range refusedOrders() {
+		want(agentIn(t, smallPlan(), c.s), c.o)
+	}
+}
+
+func TestPromise19TornIn(t *testing.T) {
+	agents := append(oddAgents(t), agentWith(t, smallPlan(), readyState(2), 1200), agentWith(t, fullPlan(), edgeState(), 1195))
+	for i, odd := range agents {
+		for _, o := range []impl.Order{{Kind: impl.OdTick}, {Kind: impl.OdBoot, A: 5}, {Kind: impl.OdCordon}, {Kind: impl.OdProbe}, {Kind: math.MaxInt64, A: -1}} {
+			for _, k := range []int64{math.MinInt64, -1, 0, 1, int64(i) % 9, 12, math.MaxInt64} {
+				a := roomyAgent(odd)
+				quiet(t, "TornIn", func() {
+					once, twice := impl.TornIn(a, o, k), impl.TornIn(odd, o, k)
+					before := slices.Clone(twice)
+					overwriteWith(once, 99)
+					if !slices.Equal(twice, before) || !slices.Equal(impl.TornIn(a, o, k), before) {
+						t.Fatalf("two answers of TornIn of %+v at %d share memory, or are not alike", o, k)
+					}
+				})
+				if !sameAgentToTheEnd(a, roomyAgent(odd)) {
+					t.Fatal("TornIn writes into an argument, or its answer shares memory with one")
+				}
+			}
+		}
+	}
+}
+
+func TestPromise19Recovered(t *testing.T) {
+	recovered := func(a impl.Agent) (impl.Agent, int64) {
+		made, ok := impl.Recovered(a.Plan, a.Store)
+		if !ok {
+			if !equalAgents(made, impl.Agent{}) {
+				t.Fatalf("nobody comes back, but %+v", made)
+			}
+			return made, -1
+		}
+		return made, 0
+	}
+	for _, a := range oddAgents(t) {
+		wantAgentApart(t, "Recovered", recovered, a, -1)
+	}
+	for i, b := range oddStores() {
+		for _, p := range []impl.Plan{smallPlan(), fullPlan(), {Probes: 1, Tries: 1}, {}} {
+			if i%5 == 0 || len(b) < 1000 && i%2 == 0 {
+				wantAgentApart(t, "Recovered", recovered, impl.Agent{Plan: p, Store: b}, -1)
+			}
+		}
+	}
+}
+
+// The lists of an agent may be of one memory too: it stays, and no answer is of
+// it.
+func TestPromise19AgentsOfSharedMemory(t *testing.T) {
+	numbers := []int64{0, 1, 3, -7, -7}
+	p, s := smallPlan(), readyState(impl.PhDraining)
+	p.Mins, s.Locks = numbers[:3], numbers[:3]
+	for _, a := range []impl.Agent{agentIn(t, p, s), agentWith(t, p, s, 1200)} {
+		a.Plan.Mins, a.State.Locks = numbers[:3], numbers[:3]
+		wantAgentOk(t, "shared", true, a)
+		store := slices.Clone(a.Store)
+		for _, o := range append(someOrders(), impl.Order{Kind: impl.OdLock, A: 2}, impl.Order{Kind: impl.OdUnlock, A: 1}, impl.Order{Kind: impl.OdBoot, A: 5}) {
+			made, _ := impl.Obeyed(a, o)
+			overwriteAgent(t, "Obeyed", made)
+			overwriteWith(impl.TornIn(a, o, 3), 99)
+		}
+		back, _ := impl.Recovered(a.Plan, a.Store)
+		overwriteAgent(t, "Recovered", back)
+		new, _ := impl.NewAgent(a.Plan)
+		overwriteAgent(t, "NewAgent", new)
+		if !alike(numbers, 0, 1, 3, -7, -7) || !slices.Equal(a.Store, store) {
+			t.Errorf("the numbers are %v now, and the store %v", numbers, a.Store)
+		}
+	}
+}
